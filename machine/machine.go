@@ -5,6 +5,8 @@
 package machine
 
 import (
+	"maps"
+	"slices"
 	"strings"
 
 	"tillage/api"
@@ -37,7 +39,7 @@ func New(p api.Program, files []api.File, fuel int) *Machine {
 
 // Finish does the whole program on lines, as far as it comes, and tells how that went.
 func (m *Machine) Finish(lines []string) api.Outcome {
-	m.untilEnd(func() {
+	m.outcome.End = untilEnd(func() {
 		m.rulesOf(api.Begin)
 		for _, l := range lines {
 			m.records++
@@ -50,17 +52,34 @@ func (m *Machine) Finish(lines []string) api.Outcome {
 	return m.outcome
 }
 
+// Start does the rules of Begin alone, as far as they come, and tells how that went.
+func (m *Machine) Start() api.Outcome {
+	m.outcome.End = untilEnd(func() { m.rulesOf(api.Begin) })
+	return m.outcome
+}
+
+// Tell what an expression is now; false: a run that asks for that ends there.
+func (m *Machine) Tell(x api.Expr) (api.Value, bool) {
+	var v api.Value
+	end := untilEnd(func() { v = m.ask(x) })
+	return v, end == api.Done
+}
+
+// Keys that a list has now, in the order of their bytes.
+func (m *Machine) Keys(list string) []string { return slices.Sorted(maps.Keys(m.lists[list])) }
+
 // ending: how a run ends, ahead of its last rule.
 type ending int
 
 // untilEnd catches what endIf lets fall.
-func (m *Machine) untilEnd(run func()) {
+func untilEnd(run func()) (end int) {
 	defer func() {
 		if e, ok := recover().(ending); ok {
-			m.outcome.End = int(e)
+			end = int(e)
 		}
 	}()
 	run()
+	return api.Done
 }
 
 // endIf lets the end of a run fall through all rules, statements and expressions that are open.

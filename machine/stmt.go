@@ -1,7 +1,6 @@
 package machine
 
 import (
-	"maps"
 	"slices"
 	"strings"
 
@@ -74,7 +73,7 @@ func (m *Machine) while(s api.Stmt) bool {
 
 // each takes its keys ahead: what the Body does to the list does not matter.
 func (m *Machine) each(s api.Stmt) bool {
-	for _, key := range slices.Sorted(maps.Keys(m.lists[s.T])) {
+	for _, key := range m.Keys(s.T) {
 		m.burn()
 		m.vars[s.S] = value.Text(key)
 		if !m.stmts(s.Body) {
